@@ -1,0 +1,1 @@
+"""Behind a season: units driven out, raised and dropped on a board."""
