@@ -1,4 +1,4 @@
-"""The part of the language's rules that can be read off the package's files."""
+"""Some of the rules of the language, those that are easily read off the package's files."""
 
 import ast
 import builtins
