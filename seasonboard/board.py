@@ -4,6 +4,7 @@ LAND = 0
 SEA = 1
 
 NOBODY = -1
+POWERS = (0, 1, 2, 3, 4, 5, 6)
 
 NO_ORDER = 0
 ORDER_GO = 1
@@ -55,8 +56,8 @@ class DrivenUnit:
 class Board:
     """All that a line of calls changes.
 
-    Units, driven units and raises are kept by province, so that there can't be
-    two in one; barred provinces and drops are dicts of True.
+    Units, driven units and raises (the units to be raised) are kept by province,
+    so that there can't be two in one; barred provinces and drops are dicts of True.
     """
 
     def __init__(self):
@@ -107,3 +108,12 @@ def is_wrong_kind(board, fleet, p, s):
 
 def is_full_of_units(board):
     return len(board.units) + len(board.driven) >= MOST_UNITS
+
+
+def units_of(board, power):
+    return [unit for unit in board.units.values() if unit.power == power]
+
+
+def in_order_of_provinces(units):
+    """The units of a dict by province."""
+    return [units[p] for p in sorted(units)]

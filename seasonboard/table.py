@@ -1,10 +1,13 @@
 """The calls on a table, and how a line of them is read and answered."""
 
-from seasonboard.board import LAND, SEA, NOBODY, MOST_PROVINCES, MOST_LINKS
+from seasonboard.board import LAND, SEA, NOBODY, MOST_PROVINCES, MOST_LINKS, MOST_UNITS
 from seasonboard.board import Board, DrivenUnit, Province, Unit
 from seasonboard.board import land_key, land_linked, sea_key, sea_linked
-from seasonboard.board import is_full_of_units, is_of_kind, is_wrong_kind
-from seasonboard.driven_out import choices_of
+from seasonboard.board import in_order_of_provinces, is_full_of_units, is_of_kind, is_wrong_kind, units_of
+from seasonboard.distance import disorder_of, distances
+from seasonboard.driven_out import arrivals, choices_of, end_driven
+from seasonboard.settling import all_gone, centres_of, drops_of, end_season
+from seasonboard.settling import most_raises, needed_drops, raises_of, sites_of
 
 OUT_OF_RANGE = -1
 FULL = -2
@@ -12,6 +15,29 @@ NOT_FIT = -3
 THERE_ALREADY = -4
 NOT_THERE = -5
 NOT_ALLOWED = -6
+SOME_DRIVEN = -7
+ENOUGH = -8
+NO_DISTANCE = -9
+
+# What stands in the place of a province and shore where a driven unit is gone.
+GONE = (-1, 0)
+
+
+def row(numbers):
+    """A row in an answer: how many numbers, then they."""
+    return [len(numbers)] + numbers
+
+
+def rows(parts):
+    """Rows in an answer: how many, then the numbers of each."""
+    numbers = [len(parts)]
+    for part in parts:
+        numbers.extend(part)
+    return numbers
+
+
+def rows_of_units(units):
+    return rows([(unit.province, unit.power, unit.fleet, unit.shore) for unit in in_order_of_provinces(units)])
 
 
 def clear(board):
@@ -93,11 +119,7 @@ def bar(board, p):
 def choices(board, p):
     if p not in board.driven:
         return [NOT_THERE]
-    places = choices_of(board, board.driven[p])
-    numbers = [len(places)]
-    for place in places:
-        numbers.extend(place)
-    return numbers
+    return rows(choices_of(board, board.driven[p]))
 
 
 def go(board, p, q, s):
@@ -118,8 +140,102 @@ def leave(board, p):
     return [0]
 
 
+def resolve(board):
+    goals = arrivals(board)
+    outcomes = [(p,) + goals.get(p, GONE) for p in sorted(board.driven)]
+    end_driven(board, goals)
+    board.forget_raises_and_drops()
+    return rows(outcomes)
+
+
+def take(board):
+    if len(board.driven) > 0:
+        return [SOME_DRIVEN]
+    taken = 0
+    for p, unit in board.units.items():
+        entered = board.provinces[p]
+        if entered.centre == 1 and entered.owner != unit.power:
+            entered.owner = unit.power
+            taken += 1
+    board.forget_raises_and_drops()
+    return [taken]
+
+
+def balance(board, power):
+    return [
+        len(centres_of(board, power)),
+        len(units_of(board, power)),
+        len(raises_of(board, power)),
+        len(drops_of(board, power)),
+    ]
+
+
+def sites(board, power):
+    return row(sites_of(board, power))
+
+
+def raise_unit(board, power, fleet, p, s):
+    if len(board.driven) > 0:
+        return [SOME_DRIVEN]
+    if p not in sites_of(board, power):
+        return [NOT_ALLOWED]
+    if is_wrong_kind(board, fleet, p, s):
+        return [NOT_FIT]
+    if p in board.raises:
+        return [THERE_ALREADY]
+    if len(raises_of(board, power)) >= most_raises(board, power):
+        return [ENOUGH]
+    if len(board.units) + len(board.raises) >= MOST_UNITS:
+        return [FULL]
+    board.raises[p] = Unit(power, fleet, p, s)
+    return [0]
+
+
+def drop(board, p):
+    if len(board.driven) > 0:
+        return [SOME_DRIVEN]
+    if p not in board.units:
+        return [NOT_THERE]
+    if p in board.drops:
+        return [THERE_ALREADY]
+    power = board.units[p].power
+    if len(drops_of(board, power)) >= needed_drops(board, power):
+        return [ENOUGH]
+    board.drops[p] = True
+    return [0]
+
+
+def settle(board):
+    if len(board.driven) > 0:
+        return [SOME_DRIVEN]
+    gone = all_gone(board)
+    numbers = rows_of_units(board.raises) + row(gone)
+    end_season(board, gone)
+    return numbers
+
+
+def disorder(board, power):
+    return row(disorder_of(board, power))
+
+
+def far(board, power, p):
+    return [distances(board, power).get(p, NO_DISTANCE)]
+
+
+def men(board):
+    return rows_of_units(board.units)
+
+
+def owners(board):
+    # Nobody is one less than power 0, so nobody is told as 0.
+    return rows([(p, one.owner - NOBODY) for p, one in enumerate(board.provinces) if one.centre == 1])
+
+
 # Both stand in the order of the calls' numbers.
-CALLS = (clear, province, land, sea, man, owner, driven, bar, choices, go, leave)
+CALLS = (
+    clear, province, land, sea, man, owner, driven, bar, choices, go, leave,
+    resolve, take, balance, sites, raise_unit, drop, settle, disorder, far, men, owners,
+)
 
 ARGUMENTS = (
     (),
@@ -133,6 +249,17 @@ ARGUMENTS = (
     ("province",),
     ("province", "province", "shore"),
     ("province",),
+    (),
+    (),
+    ("power",),
+    ("power",),
+    ("power", "zero or one", "province", "shore"),
+    ("province",),
+    (),
+    ("power",),
+    ("power", "province"),
+    (),
+    (),
 )
 
 # The ranges of provinces are not here: they grow with the board.

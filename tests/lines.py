@@ -5,13 +5,28 @@ from seasonboard.table import answer, answers
 
 NUMBERS = {
     "clear": 0, "province": 1, "land": 2, "sea": 3, "man": 4, "owner": 5,
-    "driven": 6, "bar": 7, "choices": 8, "go": 9, "leave": 10,
+    "driven": 6, "bar": 7, "choices": 8, "go": 9, "leave": 10, "resolve": 11,
+    "take": 12, "balance": 13, "sites": 14, "raise": 15, "drop": 16, "settle": 17,
+    "disorder": 18, "far": 19, "men": 20, "owners": 21,
 }
 
 LAND, SEA, COAST = 0, 1, 2
 ARMY, FLEET = 0, 1
 LOWEST = -9223372036854775808
 HIGHEST = 9223372036854775807
+
+# Power 0 owns the centres 0 to 3 and has one unit: its sites are 0 and 1, and it may raise 3.
+# Power 1 owns centre 4 and has three units, in disorder 7, 6, 4: it has to drop 2.
+SEASON = [
+    ("province", LAND, 1, 0), ("province", COAST, 1, 0), ("province", COAST, 1, 0), ("province", LAND, 1, -1),
+    ("province", COAST, 1, 1), ("province", SEA, 0, -1), ("province", LAND, 0, -1), ("province", COAST, 0, -1),
+    ("land", 0, 1), ("land", 1, 2), ("land", 2, 3), ("land", 4, 6), ("sea", 4, 0, 5, 0), ("sea", 5, 0, 7, 1),
+    ("owner", 0, 0), ("owner", 1, 0), ("owner", 2, 0), ("owner", 3, 0), ("owner", 4, 1),
+    ("man", 0, ARMY, 2, 0), ("man", 1, ARMY, 4, 0), ("man", 1, ARMY, 6, 0), ("man", 1, FLEET, 7, 1),
+]
+
+# One unit to be raised and one ordered to be dropped on it.
+GIVEN = SEASON + [("raise", 0, FLEET, 1, 2), ("drop", 6)]
 
 
 def flat(calls):
@@ -71,6 +86,12 @@ def whole(value):
     if hasattr(value, "__dict__"):
         return whole(vars(value))
     return value
+
+
+def shown(calls):
+    """What the whole board shows behind these calls: units, owners, and each power's balance."""
+    asked = [("men",), ("owners",)] + [("balance", power) for power in range(7)]
+    return run(calls + asked)[len(calls):]
 
 
 def many_land_links(count):

@@ -122,6 +122,73 @@ class Language(unittest.TestCase):
             taken.update(dir(plain))
         self.assertEqual(values & taken, set())
 
+    def test_tops_of_files(self):
+        for name in package_files():
+            bound = []
+            for node in ast.parse(text_of(name)).body:
+                self.assertIsInstance(node, (ast.ImportFrom, ast.FunctionDef, ast.ClassDef, ast.Assign, ast.Expr))
+                if isinstance(node, ast.Expr):
+                    self.assertIsInstance(node.value, ast.Constant, name)
+                if isinstance(node, ast.Assign):
+                    bound.append(node.targets[0].id)
+                    inner = [part for part in ast.walk(node.value) if part is not node.value]
+                    self.assertFalse([part for part in inner if isinstance(part, (ast.List, ast.Dict, ast.Call))], bound)
+                if isinstance(node, (ast.FunctionDef, ast.ClassDef)):
+                    bound.append(node.name)
+                if isinstance(node, ast.ImportFrom):
+                    bound.extend(alias.name for alias in node.names)
+            self.assertEqual(len(bound), len(set(bound)), name)
+
+    def test_functions(self):
+        for name in package_files():
+            for node in nodes(name):
+                if isinstance(node, (ast.FunctionDef, ast.ClassDef)):
+                    self.assertEqual(node.decorator_list, [])
+                if isinstance(node, ast.arguments):
+                    self.assertEqual((node.vararg, node.kwarg, node.kwonlyargs, node.posonlyargs), (None, None, [], []))
+
+    def test_no_local_is_called_like_a_name_of_the_file_or_an_import(self):
+        for name in package_files():
+            tree = ast.parse(text_of(name))
+            imported = {alias.name for node in tree.body if isinstance(node, ast.ImportFrom) for alias in node.names}
+            top = imported | {node.name for node in tree.body if isinstance(node, (ast.FunctionDef, ast.ClassDef))}
+            for function in ast.walk(tree):
+                if isinstance(function, ast.FunctionDef):
+                    within = [part for part in ast.walk(function) if part is not function]
+                    self.assertEqual(bound_names(within) & top, set(), (name, function.name))
+
+    def test_no_two_files_draw_from_one_another(self):
+        drawn = {}
+        for name in package_files():
+            drawn[name] = {node.module.split(".")[1] + ".py" for node in nodes(name) if isinstance(node, ast.ImportFrom)}
+        while drawn:
+            free = [name for name in drawn if not drawn[name] & set(drawn)]
+            self.assertTrue(free, drawn)
+            for name in free:
+                drawn.pop(name)
+
+    def test_views_are_walked_on_the_spot(self):
+        for name in package_files():
+            walked = [node.iter for node in nodes(name) if isinstance(node, (ast.For, ast.comprehension))]
+            for node in nodes(name):
+                if isinstance(node, ast.Call):
+                    called = node.func.id if isinstance(node.func, ast.Name) else node.func.attr
+                    if called in ("zip", "enumerate", "reversed", "range", "items", "keys", "values"):
+                        self.assertTrue([part for part in walked if ast.dump(part) == ast.dump(node)], (name, called))
+                    self.assertNotIn(called, ("set", "frozenset", "chr", "print"))
+                    self.assertEqual(node.keywords, [])
+
+    def test_one_for_and_at_most_one_if(self):
+        for name in package_files():
+            for node in nodes(name):
+                if isinstance(node, ast.ListComp):
+                    self.assertEqual(len(node.generators), 1)
+                    self.assertLessEqual(len(node.generators[0].ifs), 1)
+                if isinstance(node, ast.Compare):
+                    self.assertFalse([op for op in node.ops if isinstance(op, (ast.Is, ast.IsNot))])
+                if isinstance(node, (ast.For, ast.While)):
+                    self.assertEqual(node.orelse, [])
+
 
 if __name__ == "__main__":
     unittest.main()

@@ -3,8 +3,8 @@
 import unittest
 
 from lines import (
-    ARMY, COAST, FLEET, LAND, SEA,
-    board_after, do, last, many_land_links, many_sea_links, provinces, run, whole,
+    ARMY, COAST, FLEET, GIVEN, LAND, SEA,
+    board_after, do, last, many_land_links, many_sea_links, provinces, run, shown, whole,
 )
 from seasonboard.board import Board
 
@@ -19,10 +19,14 @@ class Clear(unittest.TestCase):
             ("land", 0, 1), ("sea", 1, 0, 2, 0), ("man", 0, ARMY, 0, 0), ("owner", 0, 3),
             ("driven", 1, FLEET, 1, 0, 0), ("bar", 0), ("leave", 1),
         ])
-        board.raises[0] = True
-        board.drops[0] = True
         self.assertEqual(do(board, "clear"), [0])
         self.assertEqual(whole(board), whole(Board()))
+
+    def test_nothing_is_left_of_raises_and_drops(self):
+        board = board_after(GIVEN)
+        self.assertEqual(do(board, "clear"), [0])
+        self.assertEqual(whole(board), whole(Board()))
+        self.assertEqual(shown(GIVEN + [("clear",)]), shown([("clear",)]))
 
     def test_provinces_are_numbered_anew(self):
         calls = provinces(LAND, LAND) + [("clear",)] + provinces(LAND, LAND)

@@ -129,27 +129,5 @@ class Bar(unittest.TestCase):
         self.assertEqual(last(provinces(LAND) + [("man", 0, ARMY, 0, 0), ("bar", 0)]), [1])
 
 
-class RaisesAndDrops(unittest.TestCase):
-    def setUp(self):
-        self.board = board_after(provinces(LAND, LAND, COAST, COAST, LAND) + [
-            ("province", LAND, 1, 0), ("driven", 0, ARMY, 0, 0, -1), ("land", 0, 1),
-        ])
-        self.board.raises[5] = True
-        self.board.drops[1] = True
-
-    def test_some_calls_forget_them(self):
-        for call in (("man", 0, ARMY, 4, 0), ("owner", 5, 0), ("driven", 0, ARMY, 1, 0, -1), ("clear",)):
-            self.setUp()
-            self.assertEqual(do(self.board, *call), [0])
-            self.assertEqual((self.board.raises, self.board.drops), ({}, {}), call)
-
-    def test_the_others_leave_them(self):
-        calls = [("bar", 3), ("province", LAND, 0, -1), ("land", 0, 4), ("sea", 2, 0, 3, 0),
-                 ("choices", 0), ("go", 0, 1, 0), ("leave", 0)]
-        for call in calls:
-            self.assertGreaterEqual(do(self.board, *call)[0], 0, call)
-            self.assertEqual((self.board.raises, self.board.drops), ({5: True}, {1: True}), call)
-
-
 if __name__ == "__main__":
     unittest.main()
