@@ -31,9 +31,14 @@ def distances(board, power):
     return found
 
 
+def rank_in_disorder(unit, found):
+    """What sorts before another's if the unit goes before the other."""
+    # No way is as long as there may be provinces, so a unit without a distance goes before all others.
+    return (-found.get(unit.province, MOST_PROVINCES), -unit.fleet, unit.province)
+
+
 def disorder_of(board, power):
     """The provinces of the power's units, the ones that go first ahead."""
     found = distances(board, power)
-    # No way is longer than there are provinces, so without a distance a unit goes before all others.
-    ranks = [(-found.get(unit.province, MOST_PROVINCES), -unit.fleet, unit.province) for unit in units_of(board, power)]
+    ranks = [rank_in_disorder(unit, found) for unit in units_of(board, power)]
     return [rank[2] for rank in sorted(ranks)]

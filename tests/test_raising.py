@@ -3,7 +3,7 @@
 import itertools
 import unittest
 
-from lines import ARMY, COAST, FLEET, GIVEN, LAND, SEA, SEASON, last, provinces, run, shown
+from lines import ARMY, COAST, FLEET, GIVEN, LAND, SEASON, last, provinces, run, shown
 
 
 def homes(power, count, kind=COAST):
